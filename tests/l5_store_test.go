@@ -1069,6 +1069,17 @@ func TestStoreReadOnly(t *testing.T) {
 	}
 }
 
+// checkEnded checks that there are no more goroutines than before.
+func checkEnded(t *testing.T, before int) {
+	t.Helper()
+	// One that has said that it is done may still need a moment to be gone.
+	for end := time.Now().Add(10 * time.Second); runtime.NumGoroutine() > before; time.Sleep(time.Millisecond) {
+		if time.Now().After(end) {
+			t.Fatal(before, runtime.NumGoroutine())
+		}
+	}
+}
+
 // What a call has started has ended when it returns: there are not more goroutines the more calls there were.
 func TestStoreAllEnds(t *testing.T) {
 	before := runtime.NumGoroutine()
@@ -1078,12 +1089,7 @@ func TestStoreAllEnds(t *testing.T) {
 		impl.StoreAll(impl.StoreNew(), nil)
 		impl.StoreAll(impl.Store{}, list)
 	}
-	// One that has said that it is done may still need a moment to be gone.
-	for end := time.Now().Add(10 * time.Second); runtime.NumGoroutine() > before; time.Sleep(time.Millisecond) {
-		if time.Now().After(end) {
-			t.Fatal(before, runtime.NumGoroutine())
-		}
-	}
+	checkEnded(t, before)
 }
 
 // Calls at the same time with the same arguments do not know of each other.
